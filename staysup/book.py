@@ -26,6 +26,13 @@ class Book:
         found = [one[5] for one in self.done if one[0] == client and one[1] == number]
         return found[0]
 
+    def told(self):
+        """What the accounts hold, how many are done, and each thing done, number by number."""
+        numbers = self.accounts + [len(self.done)]
+        for one in self.done:
+            numbers.extend(one)
+        return numbers
+
     def do_request(self, client, number, asked):
         answer = self.change_account(asked)
         self.done.append((client, number) + asked + (answer,))

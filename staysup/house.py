@@ -28,6 +28,8 @@ MOST_MUCH = 1000
 MOST_LETTERS = 60
 MOST_STARTS = 3
 LONGEST_AGO = 100
+MOST_TICKS = 10000
+MOST_ROUNDS = 200
 
 
 class Client:
@@ -132,6 +134,13 @@ class House:
         self.letters.extend(self.waiting)
         self.waiting = []
         return sent
+
+    def round_passes(self):
+        """Letters stand in the order in which they were sent, so the first one was sent first."""
+        if len(self.letters) > 0:
+            self.letter_arrives(self.letters.pop(0))
+        if self.living[STORE]:
+            self.store_saves()
 
     def process_dies(self, process):
         if process == KEEPER:
@@ -268,9 +277,68 @@ def mind(house, numbers):
     return [process, 1 if house.living[KEEPER] else 0]
 
 
+def ticks(house, numbers):
+    n = numbers[0]
+    if n > MOST_TICKS:
+        return [NO_SUCH]
+    house.time += n
+    return [house.time]
+
+
+def turns(house, numbers):
+    n = numbers[0]
+    if n > MOST_ROUNDS:
+        return [NO_SUCH]
+    for turn in range(n):
+        house.round_passes()
+    return [len(house.letters)]
+
+
+# The calls from here on only tell: they change nothing.
+
+
+def tell_client(house, numbers):
+    c = numbers[0]
+    if c not in house.clients:
+        return [NO_SUCH]
+    client = house.clients[c]
+    return [client.made, 1 if client.waits else 0, len(client.heard)] + client.heard
+
+
+def tell_book(house, numbers):
+    if not house.living[KEEPER]:
+        return [NOT_NOW]
+    return [len(house.waiting)] + house.book.told()
+
+
+def tell_disk(house, numbers):
+    return house.disk.told()
+
+
+def tell_process(house, numbers):
+    process = numbers[0]
+    if process not in PROCESSES:
+        return [NO_SUCH]
+    return [1 if house.living[process] else 0, house.lives[process]]
+
+
+def tell_notes(house, numbers):
+    return [len(house.noted)] + house.noted + [len(house.times)] + house.times
+
+
+def tell_air(house, numbers):
+    answer = [len(house.letters)]
+    for letter in house.letters:
+        answer.extend(letter)
+    return answer
+
+
 # Both by the call's number: what answers it, and how many numbers it has.
-CALLS = (begin, ask, again, take, keep, lose, save, kill, mind)
-NUMBERS = (0, 5, 2, 1, 1, 1, 0, 1, 0)
+CALLS = (
+    begin, ask, again, take, keep, lose, save, kill, mind,
+    ticks, turns, tell_client, tell_book, tell_disk, tell_process, tell_notes, tell_air,
+)
+NUMBERS = (0, 5, 2, 1, 1, 1, 0, 1, 0, 1, 1, 1, 0, 0, 1, 0, 0)
 
 
 def answer_call(house, call, numbers):

@@ -39,6 +39,45 @@ def mind():
     return [8]
 
 
+def ticks(n):
+    return [9, n]
+
+
+def turns(n):
+    return [10, n]
+
+
+def client(c):
+    return [11, c]
+
+
+def book():
+    return [12]
+
+
+def disk():
+    return [13]
+
+
+def process(p):
+    return [14, p]
+
+
+def notes():
+    return [15]
+
+
+def air():
+    return [16]
+
+
+# Tells all that calls can tell of a house, and changes nothing.
+SHOW = [client(c) for c in (1, 2, 3)] + [process(p) for p in (1, 2, 3, 4)]
+SHOW = SHOW + [book(), disk(), notes(), air(), ticks(0)]
+
+GREATEST = 4294967295
+
+
 def flat(line):
     return [number for call in line for number in call]
 
@@ -58,6 +97,11 @@ def told(*line):
 
 def last(*line):
     return told(*line)[-1]
+
+
+def shown(*line):
+    """What SHOW tells of the house behind a line."""
+    return told(*line, *SHOW)[len(line):]
 
 
 def step(house, call):
@@ -83,6 +127,30 @@ def state(thing):
     if isinstance(thing, int):
         return thing
     return state(vars(thing))
+
+
+def parts_of(numbers, size):
+    return [numbers[place:place + size] for place in range(0, len(numbers), size)]
+
+
+def read_book(numbers):
+    """A book as it is told: what the accounts hold, and the rows of what was done."""
+    if len(numbers) != 5 + 6 * numbers[4]:
+        raise AssertionError(f"not a book: {numbers}")
+    return numbers[:4], parts_of(numbers[5:], 6)
+
+
+def read_air(numbers):
+    """The letters, one by one, each as long as its sort is."""
+    letters = []
+    place = 1
+    while place < len(numbers):
+        size = (7, 9, 6, 4)[numbers[place]]
+        letters.append(numbers[place:place + size])
+        place += size
+    if (len(letters), sum(map(len, letters))) != (numbers[0], len(numbers) - 1):
+        raise AssertionError(f"not letters: {numbers}")
+    return letters
 
 
 def way(c, s, what=0, account=0, much=5):

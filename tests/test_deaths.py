@@ -2,7 +2,9 @@
 
 import unittest
 
-from tests.helper import again, ask, begin, house_after, keep, kill, last, mind, save, step, take, told, way
+from tests.helper import (
+    again, ask, begin, house_after, keep, kill, last, mind, notes, process, save, take, ticks, told, turns, way,
+)
 
 
 class TheKeeper(unittest.TestCase):
@@ -125,34 +127,57 @@ class Minding(unittest.TestCase):
         self.assertEqual(last(*line, kill(2), mind()), [2, 0])
 
     def started_at(self, *moments):
-        house = house_after(begin())
-        answers = []
+        """A line in which server 3 dies and is minded at these times; and what mind answers each time."""
+        line = [begin()]
+        now = 0
         for moment in moments:
-            house.time = moment
-            step(house, kill(3))
-            answers.append(step(house, mind()))
-        return house, answers
+            line = line + [ticks(moment - now), kill(3), mind()]
+            now = moment
+        return line, told(*line)[3::3]
 
     def test_a_hundred_ago_counts(self):
-        house, answers = self.started_at(7, 7, 7, 107)
+        line, answers = self.started_at(7, 7, 7, 107)
         self.assertEqual(answers, [[3, 1], [3, 1], [3, 1], [3, 0]])
-        self.assertEqual(house.times, [])
+        self.assertEqual(last(*line, notes()), [0, 0])
 
     def test_longer_ago_does_not_count(self):
-        house, answers = self.started_at(7, 8, 8, 108)
+        line, answers = self.started_at(7, 8, 8, 108)
         self.assertEqual(answers, [[3, 1], [3, 1], [3, 1], [3, 1]])
-        self.assertEqual(house.times, [8, 8, 108])
-        self.assertEqual(house.lives[3], 5)
+        self.assertEqual(last(*line, notes()), [0, 3, 8, 8, 108])
+        self.assertEqual(last(*line, process(3)), [1, 5])
+
+    def test_just_one_of_three_is_longer_ago(self):
+        self.assertEqual(self.started_at(0, 1, 2, 100)[1][-1], [3, 0])
+        self.assertEqual(self.started_at(0, 1, 2, 101)[1][-1], [3, 1])
+        self.assertEqual(self.started_at(0, 1, 2, 101, 101)[1][-1], [3, 0])
+        self.assertEqual(self.started_at(0, 1, 2, 101, 102)[1][-1], [3, 1])
 
     def test_times_that_do_not_count_are_not_kept(self):
-        house, answers = self.started_at(0, 50, 300)
-        self.assertEqual(house.times, [300])
+        line, answers = self.started_at(0, 50, 300)
+        self.assertEqual(last(*line, notes()), [0, 1, 300])
         self.assertEqual(answers[-1], [3, 1])
 
     def test_all_times_that_count_are_kept(self):
-        house, answers = self.started_at(0, 50, 100)
-        self.assertEqual(house.times, [0, 50, 100])
+        line, answers = self.started_at(0, 50, 100)
+        self.assertEqual(last(*line, notes()), [0, 3, 0, 50, 100])
         self.assertEqual(answers[-1], [3, 1])
+
+    def test_times_go_only_when_the_keeper_minds(self):
+        line, answers = self.started_at(0, 50)
+        self.assertEqual(last(*line, ticks(9000), notes()), [0, 2, 0, 50])
+
+    def test_when_it_died_is_nothing_to_the_keeper(self):
+        line = [begin(), kill(2), kill(3), kill(4), mind(), mind(), mind(), kill(2)]
+        self.assertEqual(told(*line, ticks(100), mind())[-1], [2, 0])
+        self.assertEqual(told(*line, ticks(101), mind(), notes())[-2:], [[2, 1], [0, 1, 101]])
+
+    def test_rounds_take_no_time(self):
+        line = [begin()] + [kill(3), mind()] * 3 + [turns(200), kill(3), mind()]
+        self.assertEqual(last(*line), [3, 0])
+
+    def test_the_time_goes_on_while_all_is_down(self):
+        line = [begin(), ticks(10), kill(1), ticks(20), begin(), ticks(30), kill(2), mind()]
+        self.assertEqual(last(*line, notes()), [0, 1, 60])
 
 
 if __name__ == "__main__":

@@ -14,6 +14,7 @@ STATEMENTS = (
     ast.Assign, ast.AugAssign, ast.If, ast.While, ast.For, ast.Return, ast.Break, ast.Continue, ast.Pass,
     ast.Raise, ast.Try, ast.Expr, ast.FunctionDef, ast.ClassDef, ast.ImportFrom,
 )
+TOP = (ast.ImportFrom, ast.FunctionDef, ast.ClassDef, ast.Assign)
 BANNED = (
     ast.SetComp, ast.DictComp, ast.GeneratorExp, ast.NamedExpr, ast.Starred, ast.Await, ast.Yield, ast.YieldFrom,
     ast.Div, ast.MatMult,
@@ -112,6 +113,28 @@ class Language(unittest.TestCase):
                 for part in node.body:
                     plain = isinstance(part, ast.FunctionDef) or isinstance(part.value, ast.Constant)
                     self.assertTrue(plain, f"L5 {where}")
+
+    def test_the_top_of_a_file(self):
+        for path, tree in self.trees.items():
+            self.assertIsInstance(tree.body[0].value, ast.Constant, f"L3 {path.name}")
+            bound = []
+            kept = []
+            for node in tree.body[1:]:
+                self.assertIsInstance(node, TOP, f"L3 {path.name}")
+                if isinstance(node, ast.Assign):
+                    self.assertNotIsInstance(node.value, (ast.Call, ast.BinOp, ast.ListComp), f"L3 {path.name}")
+                    bound.append(node.targets[0].id)
+                elif isinstance(node, ast.ImportFrom):
+                    kept.extend(one.name for one in node.names)
+                elif isinstance(node, ast.ClassDef):
+                    kept.append(node.name)
+                else:
+                    bound.append(node.name)
+            self.assertEqual(len(set(bound + kept)), len(bound + kept), f"L15 {path.name}")
+            for function in ast.walk(tree):
+                if isinstance(function, ast.FunctionDef):
+                    names = set(own_names(function)) - {function.name}
+                    self.assertEqual(names & set(bound + kept), set(), f"L15 {path.name} {function.name}")
 
     def test_imports(self):
         for node, where in self.nodes():

@@ -3,14 +3,12 @@
 import unittest
 
 from tests.helper import (
-    again, ask, begin, house_after, keep, kill, last, lose, mind, save, sixty, state, step, take, told, way,
+    GREATEST, SHOW, again, ask, begin, book, client, disk, house_after, keep, kill, last, lose, mind, process, save,
+    sixty, state, step, take, ticks, told, turns, way,
 )
 
-GREATEST = 4294967295
-
-# Shows what the calls can show of a house: what waits, what is noted, who lives, what is asked, what is on its way.
-PROBE = [save(), again(1, 4), again(2, 4), again(3, 4), mind(), kill(4), kill(3), kill(2), kill(1), begin()]
-PROBE = PROBE + [lose(1)] * 12
+# What is told of a house, and what calls do in it then.
+PROBE = SHOW + [save(), again(1, 4), again(2, 4), again(3, 4), mind(), kill(4), kill(3), kill(2), kill(1), begin()]
 
 BUSY = [begin(), ask(1, 3), ask(2, 4), take(1), take(1), take(1), kill(3), ask(3, 3)]
 
@@ -196,6 +194,57 @@ class SaveKillMind(Refusals):
         self.refused([begin(), kill(1)], mind(), -5)
         self.refused([begin(), kill(3), mind()], mind(), -5)
         self.refused([begin(), kill(3), kill(1), begin()], mind(), -5)
+
+
+class TicksAndTurns(Refusals):
+    def test_too_many_ticks(self):
+        for n in (10001, GREATEST):
+            self.refused([], ticks(n), -1)
+            self.refused(BUSY + [ticks(7)], ticks(n), -1)
+
+    def test_the_most_ticks(self):
+        self.assertEqual(told(ticks(10000), ticks(10000), ticks(9999), ticks(0)), [[10000], [20000], [29999], [29999]])
+
+    def test_too_many_turns(self):
+        for n in (201, GREATEST):
+            self.refused([], turns(n), -1)
+            self.refused(BUSY, turns(n), -1)
+            self.refused([begin()] + sixty(), turns(n), -1)
+
+    def test_the_most_turns(self):
+        self.assertEqual(told(turns(200), turns(199), begin(), turns(200)), [[0], [0], [0], [0]])
+        self.assertEqual(last(*BUSY, turns(200)), [0])
+
+
+class Telling(Refusals):
+    def test_clients(self):
+        for line in ([], BUSY):
+            for c in (0, 4, GREATEST):
+                self.refused(line, client(c), -1)
+            for c in (1, 2, 3):
+                self.assertEqual(last(*line, client(c)), [1, 1, 0] if line else [0, 0, 0])
+
+    def test_processes(self):
+        for line in ([], BUSY):
+            for p in (0, 5, GREATEST):
+                self.refused(line, process(p), -1)
+        self.assertEqual(told(*[process(p) for p in (1, 2, 3, 4)]), [[0, 0]] * 4)
+        self.assertEqual(told(*BUSY, *[process(p) for p in (1, 2, 3, 4)])[-4:], [[1, 1], [1, 1], [0, 1], [1, 1]])
+
+    def test_the_book_while_the_keeper_does_not_live(self):
+        self.refused([], book(), -8)
+        self.refused([ask(1, 3)], book(), -8)
+        self.refused(BUSY + [kill(1)], book(), -8)
+        self.refused([begin()] + way(1, 3) + [kill(1)], book(), -8)
+        self.refused([begin()] + [kill(2), mind()] * 3 + [kill(2), mind()], book(), -8)
+
+    def test_the_book_while_the_keeper_lives(self):
+        self.assertEqual(last(begin(), kill(2), kill(3), kill(4), book()), [0, 0, 0, 0, 0, 0])
+        self.assertEqual(last(begin(), kill(1), begin(), book()), [0, 0, 0, 0, 0, 0])
+
+    def test_the_disk_is_never_refused(self):
+        self.assertEqual(last(disk()), [0, 0, 0, 0, 0])
+        self.assertEqual(last(begin(), *way(1, 3), kill(1), disk()), [5, 0, 0, 0, 1, 1, 1, 0, 0, 5, 5])
 
 
 def over_sixty():
